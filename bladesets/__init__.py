@@ -1,0 +1,1 @@
+"""Sets of three: blades that are weighed, matched and evened."""
