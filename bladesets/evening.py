@@ -7,6 +7,12 @@ def units_needed(pulls, unit):
     return [(greatest - pull) // unit for pull in pulls]
 
 
+def shortfall(pulls):
+    """What the pulls are behind the greatest, all together."""
+    greatest = max(pulls)
+    return sum([greatest - pull for pull in pulls])
+
+
 def how_far_off(pulls):
     """How far off three pulls are: 0 just if they are alike."""
     a = pulls[0]

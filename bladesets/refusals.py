@@ -2,6 +2,7 @@
 
 NO_SUCH = -2
 NOT_STARTED = -11
+NOT_EVEN = -13
 NOT_FREE = -16
 WRONG = -22
 FULL = -28

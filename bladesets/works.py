@@ -11,13 +11,14 @@ class Blade:
         self.moment = moment
         self.added = 0
         self.gone = False
-        self.in_set = False
+        # Its set's number and one, so that 0 is left for none.
+        self.set_and_one = 0
 
     def pull(self):
         return self.moment + self.added
 
     def is_free(self):
-        return not self.gone and not self.in_set
+        return not self.gone and self.set_and_one == 0
 
     def weigh_anew(self, moment):
         self.moment = moment
@@ -70,6 +71,9 @@ class Works:
     def may_be_set(self, numbers):
         return max(self.units_for(numbers)) * self.unit <= self.most
 
+    def needs_nothing(self, numbers):
+        return sum(self.units_for(numbers)) == 0
+
     def even_out(self, numbers):
         """Add to each of these blades what it needs beside the others."""
         for i, units in zip(numbers, self.units_for(numbers)):
@@ -78,13 +82,16 @@ class Works:
 
     def bind(self, numbers):
         """Make a set of these blades, evened; its number is given back."""
+        s = self.least_free_number()
+        self.bind_as(s, numbers)
+        return s
+
+    def bind_as(self, s, numbers):
         self.even_out(numbers)
         for i in numbers:
             blade = self.blades[i]
-            blade.in_set = True
-        s = self.least_free_number()
+            blade.set_and_one = s + 1
         self.trios[s] = list(numbers)
-        return s
 
     def least_free_number(self):
         s = 0
@@ -97,5 +104,23 @@ class Works:
         trio = self.trios.pop(s)
         for i in trio:
             blade = self.blades[i]
-            blade.in_set = False
+            blade.set_and_one = 0
         return trio
+
+    def rebind(self, s, numbers):
+        """Make set s anew of these blades, evened; those it had and has no more are free."""
+        self.unbind(s)
+        self.bind_as(s, numbers)
+
+    def send_off(self, s):
+        """Unbind a set whose blades are gone from then on; they are given back."""
+        trio = self.unbind(s)
+        for i in trio:
+            blade = self.blades[i]
+            blade.gone = True
+        return trio
+
+    def plan(self, kind):
+        """The free blades of a kind in threes, those that pull most first; one or two may be left out."""
+        ranked = sorted(self.free_of_kind(kind), key=lambda i: (-self.blades[i].pull(), i))
+        return [ranked[at:at + 3] for at in range(0, len(ranked) - 2, 3)]

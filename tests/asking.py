@@ -59,6 +59,17 @@ def last(*texts):
     return ask(*texts)[-1]
 
 
+def pulls(base, *blades):
+    """What these pull behind a line: their moments and what was added."""
+    looks = [last(base, f"look {i}") for i in blades]
+    return [look[0] + look[2] for look in looks]
+
+
+def added(base, *blades):
+    """What was added to these behind a line."""
+    return [last(base, f"look {i}")[2] for i in blades]
+
+
 def stock(most, unit, *moments, kind=0):
     """A line's beginning: a start, and blades of one kind with these moments."""
     return "; ".join([f"start {most} {unit}"] + [f"blade {kind} {moment}" for moment in moments])
@@ -70,7 +81,10 @@ def picture(blades, base):
     A weighing of 0 is refused: by -16 for what isn't free, by -22 for what is.
     """
     everyone = range(blades)
-    probes = [f"weigh {i} 0" for i in everyone]
+    probes = ["sums; state"] + [f"look {i}" for i in everyone]
+    probes += [f"free {kind}; plan {kind}; least {kind}" for kind in range(4)]
+    probes += [f"balanced {s}" for s in range(7)]
+    probes += [f"weigh {i} 0" for i in everyone]
     probes += [f"set {s}" for s in range(7)]
     probes += [f"third {i} {i + 1}" for i in range(blades - 1)]
     probes += [f"needs {i} {i + 1} {i + 2}; off {i} {i + 1} {i + 2}" for i in range(blades - 2)]

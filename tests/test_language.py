@@ -27,6 +27,12 @@ WORDS = """
     NamedTuple TypedDict TYPE_CHECKING abstractmethod
 """.split()
 
+PYTHONS_METHODS = """
+    append clear copy count endswith extend find get index insert isalnum isalpha isdigit islower isspace isupper
+    items join keys ljust lower lstrip partition pop remove replace reverse rfind rjust rpartition rsplit rstrip
+    setdefault split splitlines startswith strip update upper values zfill bit_length
+""".split()
+
 PARTS_OF_WORDS = ("dataclass", "overload", "contextmanager")
 METHODS = ("__init__", "__eq__", "__repr__", "__str__", "__len__")
 
@@ -50,6 +56,19 @@ def bound_names(node):
     if isinstance(node, ast.Name) and isinstance(node.ctx, ast.Store):
         return [node.id]
     return []
+
+
+def own_methods():
+    return {
+        method.name
+        for where, node in nodes() if isinstance(node, ast.ClassDef)
+        for method in node.body if isinstance(method, ast.FunctionDef)
+    }
+
+
+def own_values():
+    """The names under which objects keep values."""
+    return {node.attr for where, node in nodes() if isinstance(node, ast.Attribute) and isinstance(node.ctx, ast.Store)}
 
 
 class Language(unittest.TestCase):
@@ -97,6 +116,26 @@ class Language(unittest.TestCase):
             for name in bound_names(node):
                 plain = not name.startswith("_") and not hasattr(builtins, name)
                 self.assertTrue(plain or name in METHODS, f"{where} {name}")
+
+    def test_methods_and_values(self):
+        self.assertEqual(own_methods() & own_values(), set())
+        for where, node in nodes():
+            if isinstance(node, ast.Call) and isinstance(node.func, ast.Attribute):
+                self.assertIn(node.func.attr, own_methods() | set(PYTHONS_METHODS), where)
+        for name in own_values():
+            self.assertFalse(any(hasattr(kind, name) for kind in (str, int, list, tuple, dict, set, bytes)), name)
+
+    def test_each_name_once_at_the_top(self):
+        for path in files():
+            names = []
+            for node in ast.parse(path.read_text()).body:
+                if isinstance(node, ast.ImportFrom):
+                    names += [alias.asname or alias.name for alias in node.names]
+                elif isinstance(node, ast.Assign):
+                    names += [node.targets[0].id]
+                else:
+                    names += bound_names(node)
+            self.assertEqual(len(names), len(set(names)), path.name)
 
     def test_words_that_stand_nowhere(self):
         for path in files():

@@ -1,11 +1,6 @@
 import unittest
 
-from tests.asking import GREATEST, WRONG_THREES, ask, changes_nothing, last, stock
-
-
-def pulls(base, *blades):
-    """What these pull, told by scrapping each; they must be free."""
-    return [last(base, f"scrap {i}")[0] for i in blades]
+from tests.asking import GREATEST, WRONG_THREES, ask, changes_nothing, last, pulls, stock
 
 
 class Match(unittest.TestCase):

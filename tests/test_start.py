@@ -40,6 +40,15 @@ class Start(unittest.TestCase):
         self.assertEqual(last(base, "blade 3 8"), [0])
         self.assertEqual(last(base, "blade 0 5; blade 0 5; blade 0 5; match 0 1 2"), [0])
 
+    def test_no_call_finds_anything_behind_a_second_start(self):
+        base = stock(50, 5, 5, 15, 5, 5, 7) + "; match 0 1 2; scrap 3; add 4 9; start 40 3"
+        for call, answer in (
+            ("exchange 0 0 4", [-2]), ("plan 0", [0]), ("least 0", [0]), ("follow 0", [0]), ("add 4 1", [-2]),
+            ("balanced 0", [-2]), ("ship 0", [-2]), ("free 0", [0]), ("look 0", [-2]), ("sums", [0, 0]),
+            ("state", [0, 0, 0, 40, 3]),
+        ):
+            self.assertEqual(last(base, call), answer, call)
+
     def test_a_second_start_tells_most_and_unit_anew(self):
         again = stock(100, 10, 1) + ";" + stock(20, 5, 30, 30, 10)
         self.assertEqual(last(again, "needs 0 1 2"), [4, 0, 0, 4])
@@ -55,6 +64,7 @@ class Start(unittest.TestCase):
         for refused in ("start 10001 1", "start 0 0", "start 0 1001"):
             self.assertTrue(changes_nothing(6, base, refused))
             self.assertEqual(last(base, refused, "match 0 1 2"), [1])
+            self.assertEqual(last(base, refused, "state"), [6, 0, 1, 20, 10])
             self.assertEqual(last(base, refused, "weigh 2 1; needs 0 1 2"), [2, 0, 0, 2])
 
 
@@ -76,6 +86,8 @@ class BeforeStart(unittest.TestCase):
         self.assertEqual(ask("blade 4 0"), [[-11]])
         self.assertEqual(ask(f"weigh {GREATEST} 0"), [[-11]])
         self.assertEqual(ask("match 0 0 0"), [[-11]])
+        self.assertEqual(ask("exchange 0 0 0; plan 4; least 4; follow 4; add 0 0; free 4"), [[-11]] * 6)
+        self.assertEqual(ask(f"balanced {GREATEST}; ship {GREATEST}; look {GREATEST}"), [[-11]] * 3)
 
     def test_what_was_asked_before_start_is_not_there_behind_it(self):
         self.assertEqual(ask("blade 0 1; start 0 1; scrap 0; blade 0 1"), [[-11], [0], [-2], [0]])

@@ -62,6 +62,7 @@ class Off(unittest.TestCase):
     def test_may_be_greater_than_other_numbers(self):
         self.assertEqual(last(stock(0, 1, 100000, 1, 1), "off 0 1 2"), [9999800001])
         self.assertGreater(9999800001, GREATEST)
+        self.assertEqual(last(stock(10000, 1, 100000, 1, 1), "add 0 10000; off 0 1 2"), [109999 ** 2])
 
     def test_what_was_added_counts(self):
         base = stock(9, 2, 10, 5, 10) + "; match 0 1 2"
